@@ -1,0 +1,1 @@
+"""A star atlas: a catalogue of stars and their places."""

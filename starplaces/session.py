@@ -1,0 +1,98 @@
+"""A session: one catalogue, and the operations on it.
+
+Each operation gives back the list of the numbers that it answers.
+"""
+
+from starplaces.angles import HALF_TURN, QUARTER
+from starplaces.positions import ecliptic_vector, horizontal_vector, place_vector
+from starplaces.texts import index_of_name, read_catalogue, written_catalogue
+from starplaces.times import is_moment
+from starplaces.vectors import longitude_and_latitude, separation_of
+
+# Codes of errors are answered negative.
+OUT_OF_RANGE = 2
+NO_SUCH_STAR = 3
+
+
+def is_observation(t, site_longitude, site_latitude):
+    """Whether a moment and the angles of a site are in their ranges."""
+    if not is_moment(t):
+        return False
+    return -HALF_TURN <= site_longitude <= HALF_TURN and -QUARTER <= site_latitude <= QUARTER
+
+
+class Session:
+    """A catalogue, empty at first, and the operations 0 to 7."""
+
+    def __init__(self):
+        self.stars = []
+
+    def load(self, text):
+        """Replaces the catalogue by that of a text."""
+        error, stars = read_catalogue(text)
+        if len(error) > 0:
+            return error
+        self.stars = stars
+        return [len(stars)]
+
+    def describe(self, i):
+        """What the catalogue tells of a star."""
+        if i >= len(self.stars):
+            return [-NO_SUCH_STAR]
+        star = self.stars[i]
+        numbers = [
+            star.right_ascension,
+            star.declination,
+            star.magnitude,
+            star.right_ascension_motion,
+            star.declination_motion,
+            len(star.name),
+        ]
+        return numbers + star.name
+
+    def search_name(self, name):
+        """The number of the star with a name."""
+        i = index_of_name(self.stars, name)
+        if i is None:
+            return [-NO_SUCH_STAR]
+        return [i]
+
+    def export(self):
+        """The text of the catalogue, behind its length."""
+        text = written_catalogue(self.stars)
+        return [len(text)] + text
+
+    def place(self, i, t):
+        """Right ascension and declination in the system of the moment."""
+        if i >= len(self.stars):
+            return [-NO_SUCH_STAR]
+        if not is_moment(t):
+            return [-OUT_OF_RANGE]
+        return longitude_and_latitude(place_vector(self.stars[i], t))
+
+    def horizon(self, i, t, site_longitude, site_latitude):
+        """Azimuth and altitude of the place of a star."""
+        if i >= len(self.stars):
+            return [-NO_SUCH_STAR]
+        if not is_observation(t, site_longitude, site_latitude):
+            return [-OUT_OF_RANGE]
+        vector = place_vector(self.stars[i], t)
+        return longitude_and_latitude(horizontal_vector(vector, t, site_longitude, site_latitude))
+
+    def ecliptic(self, i, t):
+        """Ecliptic longitude and latitude of the place of a star."""
+        if i >= len(self.stars):
+            return [-NO_SUCH_STAR]
+        if not is_moment(t):
+            return [-OUT_OF_RANGE]
+        return longitude_and_latitude(ecliptic_vector(place_vector(self.stars[i], t)))
+
+    def separation(self, i, j, t):
+        """The separation of the places of two stars."""
+        if i >= len(self.stars) or j >= len(self.stars):
+            return [-NO_SUCH_STAR]
+        if not is_moment(t):
+            return [-OUT_OF_RANGE]
+        first = place_vector(self.stars[i], t)
+        second = place_vector(self.stars[j], t)
+        return [separation_of(first, second)]
