@@ -12,8 +12,8 @@ QUARTER = 324000000
 TERM_COUNT = 12
 
 
+# t1 - t2 + ... - t12; n is the lower factor by which t2 is divided.
 def alternating_sum(first, y, n):
-    """t1 - t2 + t3 - ... - t12; n is the lower divisor of the second term."""
     total = 0
     term = first
     for k in range(TERM_COUNT):
@@ -26,34 +26,33 @@ def alternating_sum(first, y, n):
     return total
 
 
+# S(a) of the document, for an angle from 0 to half a quarter.
 def sine_series(a):
-    """S(a), for an angle from 0 to half a quarter."""
     x = a * SCALED_PI // HALF_TURN
     return alternating_sum(x, x * x // ONE, 2)
 
 
+# C(a) of the document, for an angle from 0 to half a quarter.
 def cosine_series(a):
-    """C(a), for an angle from 0 to half a quarter."""
     x = a * SCALED_PI // HALF_TURN
     return alternating_sum(ONE, x * x // ONE, 1)
 
 
+# s(a) of the document, for an angle from 0 to below a quarter.
 def quarter_sine(a):
-    """s(a), for an angle from 0 to below a quarter."""
     if 2 * a <= QUARTER:
         return sine_series(a)
     return cosine_series(QUARTER - a)
 
 
+# c(a) of the document, for an angle from 0 to below a quarter.
 def quarter_cosine(a):
-    """c(a), for an angle from 0 to below a quarter."""
     if 2 * a <= QUARTER:
         return cosine_series(a)
     return sine_series(QUARTER - a)
 
 
 def sine(a):
-    """The sine of any angle."""
     within = a % TURN
     quarter = within // QUARTER
     rest = within % QUARTER
@@ -67,13 +66,11 @@ def sine(a):
 
 
 def cosine(a):
-    """The cosine of any angle."""
     # In each quarter of the turn it is what the sine is a quarter later.
     return sine(a + QUARTER)
 
 
 def halve(holds, low, high):
-    """The last number from low on that halving the range shows to hold."""
     lo = low
     hi = high
     while hi - lo > 1:
@@ -86,7 +83,6 @@ def halve(holds, low, high):
 
 
 def arcsin(v):
-    """The angle of a scaled sine, negative if the sine is."""
     size = abs(v)
     found = halve(lambda m: sine(m) <= size, 0, QUARTER + 1)
     if v < 0:
@@ -94,13 +90,12 @@ def arcsin(v):
     return found
 
 
+# f(x, y) of the document.
 def quarter_direction(x, y):
-    """f(x, y): the direction of a point of the first quarter."""
     return halve(lambda m: sine(m) * x <= y * cosine(m), 0, QUARTER)
 
 
 def direction(x, y):
-    """The angle from 0 to below a turn at which a point of the plane is seen."""
     if x == 0 and y == 0:
         return 0
     if x > 0 and y >= 0:

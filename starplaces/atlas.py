@@ -15,12 +15,11 @@ NUMBER_COUNTS = (0, 1, 0, 0, 2, 4, 2, 3)
 
 
 def has_row(operation):
-    """Whether a call of the operation ends with a row, a text or a name."""
     return operation == LOAD or operation == FIND
 
 
+# For each call its operation, its numbers, and its row, empty if it has none.
 def split_calls(calls):
-    """The calls one by one: each its operation, its numbers and its row."""
     parts = []
     at = 0
     while at < len(calls):
@@ -38,7 +37,6 @@ def split_calls(calls):
 
 
 def answer_to(session, operation, numbers, row):
-    """What the session answers to one call."""
     if operation == LOAD:
         return session.load(row)
     if operation == STAR:
@@ -57,7 +55,6 @@ def answer_to(session, operation, numbers, row):
 
 
 def answers(calls):
-    """For each call how many numbers are answered, and these numbers."""
     session = Session()
     results = []
     for operation, numbers, row in split_calls(calls):

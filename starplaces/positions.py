@@ -11,8 +11,6 @@ OBLIQUITY = 84381448
 
 
 class Star:
-    """A star: its name as bytes, then angles, and thousandths of a magnitude."""
-
     def __init__(self, name, right_ascension, declination, magnitude, motions):
         self.name = name
         self.right_ascension = right_ascension
@@ -22,15 +20,15 @@ class Star:
         self.declination_motion = motions[1]
 
 
+# In the system of the year 2000: the motion alone is taken up to t.
 def moved_vector(star, t):
-    """The vector of a star in the system of the year 2000, moved on to t."""
     longitude = star.right_ascension + star.right_ascension_motion * t // YEAR
     latitude = star.declination + star.declination_motion * t // YEAR
     return vector_at(longitude, latitude)
 
 
+# In the system of the moment.
 def place_vector(star, t):
-    """The place of a star: its vector in the system of the moment t."""
     p = PRECESSION_P * t // CENTURY
     n = PRECESSION_N * t // CENTURY
     vector = rotated_z(moved_vector(star, t), p)
@@ -38,12 +36,11 @@ def place_vector(star, t):
 
 
 def ecliptic_vector(vector):
-    """A vector as the ecliptic system has it."""
     return rotated_x(vector, -OBLIQUITY)
 
 
+# North, east, up.
 def horizontal_vector(vector, t, site_longitude, site_latitude):
-    """North, east and up of a vector, seen from a site at the moment t."""
     x, y, z = rotated_z(vector, -(sidereal_time(t) + site_longitude))
     s = sine(site_latitude)
     c = cosine(site_latitude)

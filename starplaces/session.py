@@ -15,20 +15,16 @@ NO_SUCH_STAR = 3
 
 
 def is_observation(t, site_longitude, site_latitude):
-    """Whether a moment and the angles of a site are in their ranges."""
     if not is_moment(t):
         return False
     return -HALF_TURN <= site_longitude <= HALF_TURN and -QUARTER <= site_latitude <= QUARTER
 
 
 class Session:
-    """A catalogue, empty at first, and the operations 0 to 7."""
-
     def __init__(self):
         self.stars = []
 
     def load(self, text):
-        """Replaces the catalogue by that of a text."""
         error, stars = read_catalogue(text)
         if len(error) > 0:
             return error
@@ -36,7 +32,6 @@ class Session:
         return [len(stars)]
 
     def describe(self, i):
-        """What the catalogue tells of a star."""
         if i >= len(self.stars):
             return [-NO_SUCH_STAR]
         star = self.stars[i]
@@ -51,19 +46,16 @@ class Session:
         return numbers + star.name
 
     def search_name(self, name):
-        """The number of the star with a name."""
         i = index_of_name(self.stars, name)
         if i is None:
             return [-NO_SUCH_STAR]
         return [i]
 
     def export(self):
-        """The text of the catalogue, behind its length."""
         text = written_catalogue(self.stars)
         return [len(text)] + text
 
     def place(self, i, t):
-        """Right ascension and declination in the system of the moment."""
         if i >= len(self.stars):
             return [-NO_SUCH_STAR]
         if not is_moment(t):
@@ -71,7 +63,6 @@ class Session:
         return longitude_and_latitude(place_vector(self.stars[i], t))
 
     def horizon(self, i, t, site_longitude, site_latitude):
-        """Azimuth and altitude of the place of a star."""
         if i >= len(self.stars):
             return [-NO_SUCH_STAR]
         if not is_observation(t, site_longitude, site_latitude):
@@ -80,7 +71,6 @@ class Session:
         return longitude_and_latitude(horizontal_vector(vector, t, site_longitude, site_latitude))
 
     def ecliptic(self, i, t):
-        """Ecliptic longitude and latitude of the place of a star."""
         if i >= len(self.stars):
             return [-NO_SUCH_STAR]
         if not is_moment(t):
@@ -88,7 +78,6 @@ class Session:
         return longitude_and_latitude(ecliptic_vector(place_vector(self.stars[i], t)))
 
     def separation(self, i, j, t):
-        """The separation of the places of two stars."""
         if i >= len(self.stars) or j >= len(self.stars):
             return [-NO_SUCH_STAR]
         if not is_moment(t):

@@ -26,14 +26,13 @@ NUMBER_SIGN = 35
 
 
 def is_allowed(text):
-    """Whether a text is short enough and has none but allowed bytes."""
     if len(text) > LONGEST_TEXT:
         return False
     return all([byte == LINE_FEED or SPACE <= byte <= LAST_BYTE for byte in text])
 
 
+# Empty parts count: a line without words has a number, too.
 def parted(signs, separator):
-    """The parts of a list of bytes between the separators, empty ones too."""
     parts = []
     part = []
     for byte in signs:
@@ -47,25 +46,23 @@ def parted(signs, separator):
 
 
 def words_of(line):
-    """The words of a line."""
     return [word for word in parted(line, SPACE) if len(word) > 0]
 
 
 def is_ignored(words):
-    """Whether a line of these words describes no star."""
     return len(words) == 0 or words[0][0] == NUMBER_SIGN
 
 
+# None if there is no such star.
 def index_of_name(stars, name):
-    """The number of the star with this name, or None."""
     for i, star in enumerate(stars):
         if star.name == name:
             return i
     return None
 
 
+# The first error of a line that comes behind these stars; 0 if there is none.
 def error_kind(words, stars):
-    """The kind of the first error of a line behind these stars, or 0."""
     if len(words) != 6:
         return 1
     if not is_name(words[0]):
@@ -86,7 +83,6 @@ def error_kind(words, stars):
 
 
 def star_of(words):
-    """The star that six words without an error describe."""
     motions = (motion_of(words[4]), motion_of(words[5]))
     return Star(
         words[0],
@@ -97,8 +93,8 @@ def star_of(words):
     )
 
 
+# The fields of the error, none if the text is right, and the stars.
 def read_catalogue(text):
-    """The error of a text, as the list of its fields or [], and its stars."""
     if not is_allowed(text):
         return ([-TEXT_NOT_ALLOWED], [])
     stars = []
@@ -114,19 +110,16 @@ def read_catalogue(text):
 
 
 def sign_before(number):
-    """The minus sign of a negative number, else no sign."""
     if number < 0:
         return "-"
     return ""
 
 
 def digits_of(number, width):
-    """A number in digits, with zeros ahead of it up to a width."""
     return str(number).zfill(width)
 
 
 def sixtieths(size):
-    """Thousandths of a second in the form dd:dd:dd.ddd."""
     seconds = size // 1000
     hours = digits_of(seconds // 3600, 2)
     minutes = digits_of(seconds // 60 % 60, 2)
@@ -136,19 +129,16 @@ def sixtieths(size):
 
 
 def declination_text(declination):
-    """A declination with its sign, which is + for 0."""
     sign = sign_before(declination) or "+"
     return sign + sixtieths(abs(declination))
 
 
 def magnitude_text(magnitude):
-    """A magnitude with three decimals."""
     size = abs(magnitude)
     return sign_before(magnitude) + str(size // 1000) + "." + digits_of(size % 1000, 3)
 
 
 def star_line(star):
-    """The line of a star, as bytes."""
     numbers = [
         sixtieths(star.right_ascension // SECOND_OF_TIME),
         declination_text(star.declination),
@@ -161,7 +151,6 @@ def star_line(star):
 
 
 def written_catalogue(stars):
-    """The text of a catalogue, as bytes."""
     text = []
     for star in stars:
         text.extend(star_line(star))

@@ -10,10 +10,8 @@ SIDEREAL_SPAN = 86400000000
 
 
 def is_moment(t):
-    """Whether a number lies in the range of the moments."""
     return -LAST_MOMENT <= t <= LAST_MOMENT
 
 
 def sidereal_time(t):
-    """The sidereal time of a moment, an angle."""
     return (SIDEREAL_START + t * SIDEREAL_GAIN // SIDEREAL_SPAN) % TURN

@@ -4,20 +4,18 @@ from starplaces.angles import ONE, arcsin, cosine, direction, halve, sine
 
 
 def vector_at(longitude, latitude):
-    """The vector of a longitude and a latitude."""
     x = cosine(latitude) * cosine(longitude) // ONE
     y = cosine(latitude) * sine(longitude) // ONE
     return (x, y, sine(latitude))
 
 
 def longitude_and_latitude(vector):
-    """The longitude and the latitude of a vector, as a list of the two."""
     x, y, z = vector
     return [direction(x, y), arcsin(z)]
 
 
+# X(a) of the document; Y(a) and Z(a) are below.
 def rotated_x(vector, a):
-    """The vector after the rotation X(a)."""
     x, y, z = vector
     s = sine(a)
     c = cosine(a)
@@ -25,7 +23,6 @@ def rotated_x(vector, a):
 
 
 def rotated_y(vector, a):
-    """The vector after the rotation Y(a)."""
     x, y, z = vector
     s = sine(a)
     c = cosine(a)
@@ -33,7 +30,6 @@ def rotated_y(vector, a):
 
 
 def rotated_z(vector, a):
-    """The vector after the rotation Z(a)."""
     x, y, z = vector
     s = sine(a)
     c = cosine(a)
@@ -41,14 +37,12 @@ def rotated_z(vector, a):
 
 
 def square_root(d):
-    """The greatest whole number whose square is at most d."""
     # A number of n bits has a root of at most n // 2 + 1 bits.
     bound = 1 << (d.bit_length() // 2 + 1)
     return halve(lambda m: m * m <= d, 0, bound)
 
 
 def separation_of(first, second):
-    """The separation of two vectors, an angle."""
     squares = [(a - b) * (a - b) for a, b in zip(first, second)]
     chord = square_root(sum(squares))
     return 2 * arcsin(min(ONE, chord // 2))

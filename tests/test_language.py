@@ -97,6 +97,8 @@ class Language(unittest.TestCase):
             for node in ast.walk(tree):
                 if isinstance(node, ast.stmt):
                     self.assertIsInstance(node, STATEMENTS, (name, node.lineno))
+                if isinstance(node, ast.Expr) and node is not tree.body[0]:
+                    self.assertIsInstance(node.value, ast.Call, (name, node.lineno))
                 if isinstance(node, ast.expr):
                     self.assertIsInstance(node, EXPRESSIONS, (name, node.lineno))
                 if isinstance(node, (ast.For, ast.While)):
