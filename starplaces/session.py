@@ -4,20 +4,24 @@ Each operation gives back the list of the numbers that it answers.
 """
 
 from starplaces.angles import HALF_TURN, QUARTER
+from starplaces.error_codes import NO_SUCH_STAR, OUT_OF_RANGE
 from starplaces.positions import ecliptic_vector, horizontal_vector, place_vector
+from starplaces.searches import found_stars, matches_of
 from starplaces.texts import index_of_name, read_catalogue, written_catalogue
 from starplaces.times import is_moment
-from starplaces.vectors import longitude_and_latitude, separation_of
-
-# Codes of errors are answered negative.
-OUT_OF_RANGE = 2
-NO_SUCH_STAR = 3
+from starplaces.vectors import longitude_and_latitude, separation_of, vector_at
 
 
 def is_observation(t, site_longitude, site_latitude):
     if not is_moment(t):
         return False
     return -HALF_TURN <= site_longitude <= HALF_TURN and -QUARTER <= site_latitude <= QUARTER
+
+
+def is_search(latitude, radius, t):
+    if not is_moment(t):
+        return False
+    return -QUARTER <= latitude <= QUARTER and 0 <= radius <= HALF_TURN
 
 
 class Session:
@@ -85,3 +89,24 @@ class Session:
         first = place_vector(self.stars[i], t)
         second = place_vector(self.stars[j], t)
         return [separation_of(first, second)]
+
+    def cone(self, longitude, latitude, radius, limit, t):
+        if not is_search(latitude, radius, t):
+            return [-OUT_OF_RANGE]
+        found = found_stars(self.stars, vector_at(longitude, latitude), radius, limit, t)
+        numbers = [len(found)]
+        for angle, i in found:
+            numbers.extend([i, angle])
+        return numbers
+
+    def match_with(self, tolerance, t, text):
+        if not is_moment(t):
+            return [-OUT_OF_RANGE]
+        error, others = read_catalogue(text)
+        if len(error) > 0:
+            return error
+        matches = matches_of(self.stars, others, t, tolerance)
+        numbers = [len(matches)]
+        for pair in matches:
+            numbers.extend(pair)
+        return numbers

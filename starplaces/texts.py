@@ -1,5 +1,6 @@
 """Texts of catalogues, as lists of bytes: read and written."""
 
+from starplaces.error_codes import TEXT_ERROR, TEXT_NOT_ALLOWED
 from starplaces.positions import Star
 from starplaces.word_forms import (
     LINE_FEED,
@@ -16,9 +17,6 @@ from starplaces.word_forms import (
     right_ascension_of,
 )
 
-# Codes and kinds of errors are answered negative.
-TEXT_NOT_ALLOWED = 1
-TEXT_ERROR = 10
 LONGEST_TEXT = 6000
 LAST_BYTE = 126
 MOST_STARS = 60

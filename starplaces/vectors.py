@@ -1,6 +1,6 @@
 """Vectors of three scaled coordinates, their rotations and separations."""
 
-from starplaces.angles import ONE, arcsin, cosine, direction, halve, sine
+from starplaces.angles import ONE, QUARTER, arcsin, cosine, direction, halve, sine
 
 
 def vector_at(longitude, latitude):
@@ -42,7 +42,24 @@ def square_root(d):
     return halve(lambda m: m * m <= d, 0, bound)
 
 
+def square_of_distance(first, second):
+    return sum([(a - b) * (a - b) for a, b in zip(first, second)])
+
+
+# From the square of a distance.
+def separation_at(square):
+    return 2 * arcsin(min(ONE, square_root(square) // 2))
+
+
 def separation_of(first, second):
-    squares = [(a - b) * (a - b) for a, b in zip(first, second)]
-    chord = square_root(sum(squares))
-    return 2 * arcsin(min(ONE, chord // 2))
+    return separation_at(square_of_distance(first, second))
+
+
+# Whether separation_at(square) is at most an angle, which is not negative.
+# As sines rise up to a quarter, one of them tells it without any halving.
+def is_within(square, angle):
+    half = angle // 2
+    if half >= QUARTER:
+        return True
+    bound = 2 * sine(half + 1)
+    return square < bound * bound

@@ -11,9 +11,20 @@ OPERATIONS = {
     "horizon": 5,
     "ecliptic": 6,
     "separation": 7,
+    "cone": 8,
+    "match": 9,
+    "date": 10,
+    "moment": 11,
+    "sidereal": 12,
+    "sines": 13,
+    "angles": 14,
 }
 
 ONE_STAR = "a 00:00:00.000 +00:00:00.000 1 0 0"
+
+# The last moment that is allowed; the first one is its opposite.
+LAST = 10**10
+WRONG_MOMENTS = (LAST + 1, -LAST - 1, 10**18, -10**18)
 
 
 def as_bytes(text):
@@ -79,6 +90,15 @@ def exported(text):
     return as_text(numbers)
 
 
+def ask_each(calls, *first):
+    """The answers to any number of calls, forty to a list, some calls ahead of each."""
+    results = []
+    step = 40 - len(first)
+    for at in range(0, len(calls), step):
+        results.extend(ask(*first, *calls[at:at + step])[len(first):])
+    return results
+
+
 def line(name="x", right_ascension="00:00:00.000", declination="+00:00:00.000",
          magnitude="1", motion="0", other_motion="0"):
     """A line of a catalogue, right but for what is handed in."""
@@ -88,3 +108,24 @@ def line(name="x", right_ascension="00:00:00.000", declination="+00:00:00.000",
 def many_lines(count):
     """The lines of many stars, named s0, s1, ..."""
     return [line(f"s{i}") for i in range(count)]
+
+
+def declinations(*sizes):
+    """A text of stars at right ascension 0, some thousandths of a second from the equator."""
+    lines = []
+    for i, size in enumerate(sizes):
+        sign = "-" if size < 0 else "+"
+        lines.append(line(f"s{i}", declination=f"{sign}00:00:{abs(size) // 1000:02}.{abs(size) % 1000:03}"))
+    return "\n".join(lines)
+
+
+# For each kind of error a text that has it in its second line.
+WRONG = {
+    1: "\nx 00:00:00.000",
+    2: "\n" + line(name="X"),
+    3: "\n" + line(right_ascension="24:00:00.000"),
+    4: "\n" + line(declination="+90:00:00.001"),
+    5: "\n" + line(magnitude="1."),
+    6: "\n" + line(motion="+1"),
+    7: line() + "\n" + line(),
+}

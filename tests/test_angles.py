@@ -9,10 +9,12 @@ from starplaces.positions import horizontal_vector, place_vector
 from starplaces.texts import read_catalogue
 from starplaces.times import sidereal_time
 from starplaces.vectors import (
+    is_within,
     longitude_and_latitude,
     rotated_x,
     rotated_y,
     rotated_z,
+    separation_at,
     separation_of,
     square_root,
     vector_at,
@@ -198,6 +200,16 @@ class SeparationsOfVectors(unittest.TestCase):
         self.assertEqual([separation_of(x, x), separation_of(x, y), separation_of(y, z)], [0, Q, Q])
         self.assertEqual(separation_of(z, (0, 0, E)), 2 * Q)
         self.assertEqual(separation_of((0, 0, E + 9), (0, 0, -E - 9)), 2 * Q)
+
+    def test_within_as_the_separation_says(self):
+        """At the least square of a larger separation, and beside it."""
+        for a in (0, 1, 2, 3, 10, 99, Q // 2, Q - 1, Q, Q + 1, 2 * Q - 4, 2 * Q - 3, 2 * Q - 2, 2 * Q - 1, 2 * Q):
+            edges = [0, 1, 4 * E * E - 1, 4 * E * E, 5 * E * E]
+            for half in (a // 2, a // 2 + 1):
+                edge = 4 * sine(min(half, Q)) ** 2
+                edges += [max(0, edge - 1), edge, edge + 1]
+            for square in edges:
+                self.assertEqual(is_within(square, a), separation_at(square) <= a, (square, a))
 
     def test_order_and_range(self):
         angles = some_angles(100, 9)

@@ -4,21 +4,12 @@ import math
 import unittest
 
 from tests.known_places import CATALOGUE, ECLIPTICS, HORIZONS, PLACES, SEPARATIONS
-from tests.support import ONE_STAR, ask, line
+from tests.support import LAST, ONE_STAR, WRONG_MOMENTS, ask, ask_each, line
 
 TURN = 1296000000
 QUARTER = 324000000
-LAST = 10**10
 # At the moment 0 and this longitude of the site the sidereal time is 0.
 ZERO_SITE = TURN - 1009658226
-
-
-def ask_many(text, calls):
-    """The answers to any number of calls, each list behind a load of the text."""
-    results = []
-    for at in range(0, len(calls), 30):
-        results.extend(ask(("load", text), *calls[at:at + 30])[1:])
-    return results
 
 
 class KnownPlaces(unittest.TestCase):
@@ -26,7 +17,7 @@ class KnownPlaces(unittest.TestCase):
 
     def check(self, name, rows, count):
         calls = [(name, *row[:-count]) for row in rows]
-        got = ask_many(CATALOGUE, calls)
+        got = ask_each(calls, ("load", CATALOGUE))
         for row, result in zip(rows, got, strict=True):
             self.assertEqual(result, list(row[-count:]), (name, row))
 
@@ -104,8 +95,6 @@ class Directions(unittest.TestCase):
 class Ranges(unittest.TestCase):
     """The first and the last numbers that are allowed, and the next ones."""
 
-    WRONG_MOMENTS = (LAST + 1, -LAST - 1, 10**18, -10**18)
-
     def good(self, *call):
         result = ask(("load", CATALOGUE), call)[1]
         self.assertGreater(result[-1], -QUARTER - 1)
@@ -121,7 +110,7 @@ class Ranges(unittest.TestCase):
             self.good("horizon", 0, t, 0, 0)
             self.good("ecliptic", 0, t)
             self.good("separation", 0, 1, t)
-        for t in self.WRONG_MOMENTS:
+        for t in WRONG_MOMENTS:
             self.wrong("place", 0, t)
             self.wrong("horizon", 0, t, 0, 0)
             self.wrong("ecliptic", 0, t)
@@ -152,7 +141,7 @@ class Ranges(unittest.TestCase):
             self.assertEqual(got, [[1]] + [[-3]] * 6)
 
     def test_missing_star_comes_before_the_range(self):
-        for t in self.WRONG_MOMENTS:
+        for t in WRONG_MOMENTS:
             got = ask(("load", ONE_STAR), ("place", 1, t), ("horizon", 1, t, 0, 0), ("ecliptic", 1, t),
                       ("separation", 1, 0, t), ("separation", 0, 1, t), ("separation", 1, 1, t))
             self.assertEqual(got, [[1]] + [[-3]] * 6)
@@ -175,7 +164,7 @@ class Separations(unittest.TestCase):
                 for j in range(18):
                     calls.append(("separation", i, j, t))
                     calls.append(("separation", j, i, t))
-        got = ask_many(CATALOGUE, calls)
+        got = ask_each(calls, ("load", CATALOGUE))
         for at in range(0, len(got), 2):
             self.assertEqual(got[at], got[at + 1], calls[at])
             self.assertTrue(0 <= got[at][0] <= 648000000, calls[at])
@@ -183,7 +172,7 @@ class Separations(unittest.TestCase):
     def test_same_star(self):
         for t in (0, 1, -LAST, LAST, 762436800):
             calls = [("separation", i, i, t) for i in range(18)]
-            self.assertEqual(ask_many(CATALOGUE, calls), [[0]] * 18)
+            self.assertEqual(ask_each(calls, ("load", CATALOGUE)), [[0]] * 18)
 
     def test_two_stars_at_one_place(self):
         text = line("a", "05:06:07.008", "+12:13:14.015") + "\n" + line("b", "05:06:07.008", "+12:13:14.015", "9")

@@ -2,20 +2,9 @@
 
 import unittest
 
-from tests.support import as_bytes, ask, ask_last, exported, line, load, many_lines
+from tests.support import WRONG, as_bytes, ask, ask_last, exported, line, load, many_lines
 
 GOOD = "keep 01:02:03.004 -05:06:07.008 -1.5 -12 99\n"
-
-# For each kind of error a text that has it in its second line.
-WRONG = {
-    1: "\nx 00:00:00.000",
-    2: "\n" + line(name="X"),
-    3: "\n" + line(right_ascension="24:00:00.000"),
-    4: "\n" + line(declination="+90:00:00.001"),
-    5: "\n" + line(magnitude="1."),
-    6: "\n" + line(motion="+1"),
-    7: line() + "\n" + line(),
-}
 
 
 class AllowedTexts(unittest.TestCase):
